@@ -57,6 +57,24 @@ func TestLoadsAskOn(t *testing.T) {
 	}
 }
 
+// Nor can loads that come for ever, of which each in its turn is the oldest, keep stores from their lines.
+func TestStoresAheadOfLoadsForEver(t *testing.T) {
+	text := "lui x8, 16\nsw x8, 224(x8)\nsw x8, 240(x8)\nsw x8, (x8)\na: "
+	for k := 1; k <= 8; k++ {
+		text += fmt.Sprintf("lw x2, %d(x8)\n", 16*k)
+	}
+	for _, b := range []int{0, 1, 5, 10} {
+		for width := 1; width <= 4; width++ {
+			c := greatest()
+			c.BusCycles, c.Width, c.Cache = b, width, api.Shape{Sets: 1, Ways: 1}
+			x := runs(t, text+"j a", c)
+			if got := when(x, api.EvDrain, 0); len(got) != 3 || got[2] > 20+8*(b+1) {
+				t.Errorf("C4: BusCycles %d, %d wide: the stores are written in %d", b, width, got)
+			}
+		}
+	}
+}
+
 // Lines that all want the same place: loads, stores and atomic operations throw each other out.
 func TestLinesThatFight(t *testing.T) {
 	r := rand.New(rand.NewSource(12))

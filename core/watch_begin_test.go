@@ -164,8 +164,8 @@ func (w *watcher) older(load *inst) (list []*inst, all bool) {
 	return list, all
 }
 
-// mayLoad tells whether a load need not wait, and has its bytes near; it has them then. The bus may be asked for its line.
-func (w *watcher) mayLoad(i *inst, asks bool) bool {
+// mayLoad tells whether a load need not wait, and has its bytes near; it has them then. Else the bus is asked for its line, unless it is a store's turn.
+func (w *watcher) mayLoad(i *inst) bool {
 	addr, ok := w.at(i)
 	if !ok {
 		return true
@@ -178,7 +178,7 @@ func (w *watcher) mayLoad(i *inst, asks bool) bool {
 	for _, of := range from {
 		if of == nil {
 			if _, near := w.bus.Read(0, addr, i.size); !near {
-				if asks {
+				if !w.storeFirst() {
 					w.bus.Ask(0, addr, false)
 				}
 				return false
@@ -190,12 +190,16 @@ func (w *watcher) mayLoad(i *inst, asks bool) bool {
 	return true
 }
 
+// storeFirst tells whether it is the turn of the buffer's store to ask the bus, since it was kept from it.
+func (w *watcher) storeFirst() bool {
+	return w.kept && w.bus.State(0, w.buffer[0].addr) < api.Exclusive
+}
+
 // beginLoads lets begin all that may: the chapter asks for one at least.
 func (w *watcher) beginLoads() {
 	w.t.Helper()
-	first := w.kept && w.bus.State(0, w.buffer[0].addr) < api.Exclusive // the buffer's turn
 	for _, i := range w.may(false, api.Load) {
-		if w.mayLoad(i, !first) {
+		if w.mayLoad(i) {
 			w.takes("C4 3", api.EvIssue, i)
 			i.issued, i.due = w.cycle, w.cycle+1
 		}

@@ -46,7 +46,7 @@ func (w *watcher) isDone(i *inst) bool {
 func (w *watcher) mustNow(i *inst) bool {
 	switch i.class {
 	case api.Load:
-		return w.mayLoad(i, true)
+		return w.mayLoad(i)
 	case api.Atomic:
 		q := w.hart.Ask()
 		if q.Op == api.Illegal {

@@ -15,14 +15,15 @@ func (c *core) doAtomic(f *flight) bool {
 		return false
 	}
 	f.addr = q.Addr
+	reserved := &c.board.reserved[c.number]
 	switch q.Op {
 	case api.LrW:
-		c.reserved = q.Addr
+		*reserved = q.Addr
 		f.loaded = c.read(q)
 	case api.ScW:
-		f.held = c.reserved == q.Addr
+		f.held = *reserved == q.Addr
 		f.wrote = f.held && c.write(q, q.Data)
-		c.reserved = 0
+		*reserved = 0
 	default:
 		f.loaded = c.read(q)
 		f.wrote = c.write(q, alu.Swap(q.Op, f.loaded, q.Data))
@@ -49,5 +50,5 @@ func (c *core) read(q api.Request) uint32 {
 }
 
 func (c *core) write(q api.Request, value uint32) bool {
-	return c.board.Write(c.number, q.Addr, q.Size, value)
+	return c.board.write(c.number, q.Addr, q.Size, value)
 }

@@ -15,7 +15,7 @@ func (c *core) begin() {
 	}
 	c.beginStores()
 	for _, seq := range c.Ready(api.Load, api.MaxWindow) {
-		if f := c.find(seq); c.findBytes(f, !c.givesWay()) {
+		if f := c.find(seq); c.findBytes(f) {
 			c.issue(f, 1)
 		}
 	}

@@ -25,17 +25,16 @@ type core struct {
 	*rename.Table
 	*window.Window
 	*lsq.Queue
-	board    *board
-	number   int
-	made     api.Config
-	code     []api.Instr
-	values   [api.MaxRegisters]uint32 // by name
-	way      []*flight                // what is on its way, the oldest first
-	next     uint32                   // where the next one is taken in
-	turns    []int                    // cycles to come at which the interrupt line turns, in order
-	line     bool
-	reserved uint32 // an address; 0: nothing is reserved, for there are no data at 0
-	isLate   bool   // has the oldest store that has retired waited for its line since an earlier cycle?
+	board  *board
+	number int
+	made   api.Config
+	code   []api.Instr
+	values [api.MaxRegisters]uint32 // by name
+	way    []*flight                // what is on its way, the oldest first
+	next   uint32                   // where the next one is taken in
+	turns  []int                    // cycles to come at which the interrupt line turns, in order
+	line   bool
+	isLate bool // has the oldest store that has retired waited for its line since an earlier cycle?
 }
 
 func newCore(p Program, number int, h *arch.Hart, b *board) (*core, error) {

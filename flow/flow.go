@@ -1,4 +1,4 @@
-// Package flow: how instructions flow through cores on one bus, which package core runs one of: see doc/11-core.md. It stands beside the layers, since their faces have no core that goes on by single cycles.
+// Package flow: how instructions flow through cores on one bus, of which package core runs one, and package system one or two: see doc/11-core.md and doc/12-system.md. It stands beside the layers, since their faces have no core that goes on by single cycles.
 package flow
 
 import (
@@ -13,14 +13,29 @@ type Program struct {
 	Lines []int
 }
 
-// Machine is cores on one bus.
-type Machine struct {
+// Run runs one program or two, each on a core of its own, until all have ended or so many cycles are over.
+func Run(programs []Program, data []byte, cycles int) (api.Report, error) {
+	if !isWithin(cycles, 0, api.MaxCycles) {
+		return api.Report{}, api.ErrRange
+	}
+	m, err := newMachine(programs, data)
+	if err != nil {
+		return api.Report{}, err
+	}
+	for m.board.cycle < cycles && !m.hasEnded() {
+		m.step()
+	}
+	return m.report(), nil
+}
+
+// machine is cores on one bus.
+type machine struct {
 	board *board
 	cores []*core
 }
 
-// New makes one: a core for each program, and the data. The images of all cores are looked at ahead of how they are made.
-func New(programs []Program, data []byte) (*Machine, error) {
+// newMachine makes one: a core for each program, and the data. The images of all cores are looked at ahead of how they are made.
+func newMachine(programs []Program, data []byte) (*machine, error) {
 	var harts []*arch.Hart
 	for number, p := range programs {
 		h, err := arch.NewHart(p.Code, len(data), number)
@@ -33,7 +48,7 @@ func New(programs []Program, data []byte) (*Machine, error) {
 	if err != nil {
 		return nil, err
 	}
-	m := &Machine{board: b}
+	m := &machine{board: b}
 	for number, p := range programs {
 		c, err := newCore(p, number, harts[number], b)
 		if err != nil {
@@ -44,15 +59,7 @@ func New(programs []Program, data []byte) (*Machine, error) {
 	return m, nil
 }
 
-// Run goes on until all cores have ended, or so many cycles are over.
-func (m *Machine) Run(cycles int) api.Report {
-	for m.board.cycle < cycles && !m.hasEnded() {
-		m.step()
-	}
-	return m.report()
-}
-
-func (m *Machine) step() {
+func (m *machine) step() {
 	snoops := m.board.Tick()
 	for _, c := range m.cores {
 		c.step(snoops)
@@ -60,7 +67,7 @@ func (m *Machine) step() {
 	m.board.cycle++
 }
 
-func (m *Machine) hasEnded() bool {
+func (m *machine) hasEnded() bool {
 	for _, c := range m.cores {
 		if !c.hasEnded() {
 			return false
@@ -69,7 +76,7 @@ func (m *Machine) hasEnded() bool {
 	return true
 }
 
-func (m *Machine) report() api.Report {
+func (m *machine) report() api.Report {
 	r := api.Report{
 		Ended:  m.hasEnded(),
 		Cycles: m.board.cycle,

@@ -31,8 +31,8 @@ func (c *core) store(f *flight) {
 	}
 }
 
-// findBytes lets a load have its bytes, if it need not wait for them; else the bus is asked for its line, if it may. One that traps needs none.
-func (c *core) findBytes(f *flight, mayAsk bool) bool {
+// findBytes lets a load have its bytes, if it need not wait for them; for a line that is not there, the bus is asked. One that traps needs none.
+func (c *core) findBytes(f *flight) bool {
 	base, offset := c.operands(f)
 	addr := base + offset
 	if c.trapsAt(f, addr) {
@@ -44,11 +44,8 @@ func (c *core) findBytes(f *flight, mayAsk bool) bool {
 		return false
 	}
 	near, isNear := c.readNear(f, found)
-	switch {
-	case !isNear && mayAsk:
-		c.ask(addr, false)
-		return false
-	case !isNear:
+	if !isNear {
+		c.askToLoad(addr)
 		return false
 	}
 	c.Loaded(f.seq)
@@ -91,7 +88,7 @@ func (c *core) drain() {
 		return
 	case isDevice(w.Addr):
 		c.board.out = append(c.board.out, byte(w.Data))
-	case !c.board.Write(c.number, w.Addr, w.Size, w.Data):
+	case !c.board.write(c.number, w.Addr, w.Size, w.Data):
 		c.ask(w.Addr, true)
 		c.isLate = true
 		return
@@ -104,8 +101,11 @@ func (c *core) drain() {
 // ask asks the bus for a line, if it is not asked for another one already: what waits asks again in each cycle.
 func (c *core) ask(addr uint32, write bool) { c.board.Ask(c.number, addr, write) }
 
-// givesWay tells whether loads that are not the oldest leave the bus to a store. They come first in a cycle, so that else many of them could keep it from its line for long.
-func (c *core) givesWay() bool {
+// askToLoad leaves the bus to the oldest store that has retired, if that has waited for its line since an earlier cycle: loads come first in each cycle, so that else they could keep it from its line for long, or for ever.
+func (c *core) askToLoad(addr uint32) {
 	w, _ := c.Oldest()
-	return c.isLate && c.board.State(c.number, w.Addr) < api.Exclusive
+	if c.isLate && c.board.State(c.number, w.Addr) < api.Exclusive {
+		return
+	}
+	c.ask(addr, false)
 }

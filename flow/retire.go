@@ -49,7 +49,7 @@ func (c *core) isDoneNow(f *flight) bool {
 func (c *core) mayBeginOldest(f *flight) bool {
 	switch {
 	case f.class == api.Load:
-		return c.findBytes(f, true)
+		return c.findBytes(f)
 	case f.class == api.Atomic:
 		return c.doAtomic(f)
 	case f.instr.Op == api.Fence:
