@@ -83,7 +83,7 @@ func (m *machine) do(n tree.Node, locals []uint32) (uint32, bool) {
 	case *tree.Return:
 		return m.value(s.Value, locals), true
 	case *tree.Print:
-		m.out = append(m.out, byte(m.value(s.Value, locals)))
+		m.print(byte(m.value(s.Value, locals)))
 	}
 	return 0, false
 }
@@ -115,6 +115,9 @@ func (m *machine) repeat(s *tree.While, locals []uint32) (uint32, bool) {
 	}
 	return 0, false
 }
+
+// print is called with what was evaluated, so that Out is read behind all that was printed on the way there.
+func (m *machine) print(b byte) { m.out = append(m.out, b) }
 
 func (m *machine) at(p tree.Place, locals []uint32) *uint32 {
 	if p.Local {

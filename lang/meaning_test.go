@@ -233,6 +233,20 @@ func TestPrinted(t *testing.T) {
 	}())
 }
 
+// What a print's own expression prints comes first, in whatever part of it that is.
+func TestPrintOfWhatPrints(t *testing.T) {
+	const head = "var a[3]; func f() { print 65; return 66; } func g() { print f(); print f(); return 67; } func k(x, y) { print x; print y; return x + y; } func down(n) { if n { print down(n - 1); } return 48 + n; }"
+	for _, c := range [][2]string{
+		{"print f();", "AB"}, {"print g(); print f() + 1;", "ABABCAC"}, {"print -f() + f() * 2;", "AAB"}, {"print k(f(), g()) - 66;", "AABABBCC"}, {"print f() && g();", "AABAB\x01"}, {"print f() || g();", "A\x01"},
+		{"print a[f() - 66] + k(49, 50) - 50;", "A121"}, {"a[f() - 65] = g(); print a[1];", "AABABC"}, {"let x = f(); print x; x = g(); print x;", "ABABABC"}, {"f(); g(); print k(49, 1) + 1;", "AABAB1\x013"}, {"if f() { print g(); }", "AABABC"}, {"print down(4);", "01234"}, {"print k(down(2), down(1)) - 48;", "01021" + "3"},
+	} {
+		prints(t, "L5", head+body(c[0]), c[1])
+	}
+	fails(t, "L5", head+body("print f() + a[g()];"), 512, 1, "AABAB", 0, 0, 0)
+	fails(t, "L5", head+body("print down(60);"), 512, 2, "", 0, 0, 0)
+	fails(t, "L5", "func e(n) { print n; print e(n + 1); print 33; }"+body("print e(48);"), 54, 2, "0123")
+}
+
 // A call takes 10 words, and one for each local, of whatever block; they are given back in the end.
 func TestStack(t *testing.T) {
 	for locals := range 25 {

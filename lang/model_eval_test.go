@@ -89,7 +89,8 @@ func (p *process) statement(k int, v values) (next int, value uint32, is bool) {
 	case "return":
 		return next, p.value(span{k + 1, end}, v), true
 	case "print":
-		p.out = append(p.out, byte(p.value(span{k + 1, end}, v)&255))
+		low := byte(p.value(span{k + 1, end}, v) & 255)
+		p.out = append(p.out, low)
 	default:
 		p.named(k, end, v)
 	}

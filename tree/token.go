@@ -64,7 +64,8 @@ func (s *scanner) skipBlanks() {
 		case c == ' ' || c == '\t':
 			s.next++
 		case c == '/' && s.letter(1) == '/':
-			s.next += s.run(func(c rune) bool { return c != '\n' })
+			remark := s.run(func(c rune) bool { return c != '\n' })
+			s.next += remark
 		default:
 			return
 		}
