@@ -55,6 +55,7 @@ func forms() []form {
 		{"func k(){return 1;}" + in + "return 0", "+(k()-(k()-(k()-(k()-(k()-(k()-k()))))))", ";}"},
 		{"func f(a,b,c,d,e,g){return a;}func k(){}" + in, "f(k(),k(),k(),k(),k(),k());", "}"},
 		{"func f(a,b,c,d,e,g){return a;}" + in + "return 0", "+f(1,2,3,4,5,6)", ";}"},
+		{"func k(){}" + in + "return 0", "||0|0^0&0<1+0*k()", ";}"}, {"func k(){}var a[1];" + in + "return 0", "||a[a[a[a[a[a[a[0|0^0&0<0*k()]]]]]]]", ";}"},
 		{in + "return 9", "+2048", ";}"}, {in + "return 9", "<=9", ";}"}, {in + "return 9", "&&9", ";}"}, {in + "return 9", "||9", ";}"}, {in + "return 9", "==9", ";}"}, {in + "return 9", "-9", ";}"},
 		{in + "return 9", "&&!-~!-~!-~!-~!-~!-~!-~9", ";}"}, {in + "return 9", "-" + nested(21, "-", "9", ""), ";}"},
 		{in, "if 9{}", "}"}, {in, "if 9{}else{}", "}"}, {in, "while 0{}", "}"}, {in, "if 0{while 0{if 0{while 0{}}}}", "}"}, {in, "print 9;", "}"}, {in + "if 0{", "return 9;", "}}"},
